@@ -1,0 +1,1 @@
+"""Sparkrows: who is won over, in webs of every size."""

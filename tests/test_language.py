@@ -1,0 +1,144 @@
+"""LANGUAGE.md: the rules that can be read off the code, and where the names of the interface stand."""
+
+import ast
+import importlib
+import inspect
+import pathlib
+import re
+import unittest
+
+from tests.language import PACKAGE, complaints
+
+FOLDER = pathlib.Path(__file__).resolve().parent.parent / PACKAGE
+INTERFACE = {
+    "errors": ["SparkError", "BadWidth", "BadPairs", "BadColumns", "BadColumn", "OtherFrame", "TooShort", "NoSeat",
+               "BadSeats", "BadCell", "BadTable", "NoColumns", "BadTimes", "NoWeb", "OtherShape", "ClosedWeb",
+               "BadPrices", "BadSize", "NoForecast", "CannotJoin", "IsIn", "NotIn", "BadNeed", "Nothing", "BadLine"],
+    "frames": ["Frame", "is_cell", "is_column", "Stretch", "mirrored", "Web"],
+    "rounds": ["rounds", "moment", "won", "all_won"],
+    "holdouts": ["is_holdout", "is_order", "holdout", "is_lean", "lean_order"],
+}
+METHODS = {
+    "Frame": {"__init__": "(self, width, *, inner=(), outer=())", "__eq__": "(self, other)",
+              "beside": "(self, row)", "onward": "(self, row)", "back": "(self, row)"},
+    "Stretch": {"__init__": "(self, frame, columns)", "__eq__": "(self, other)", "__len__": "(self)",
+                "__add__": "(self, other)", "__mul__": "(self, other)"},
+    "Web": {"__init__": "(self, stretch, *, closed=False)", "__eq__": "(self, other)", "seats": "(self)",
+            "is_seat": "(self, value)", "are_seats": "(self, value)", "cell": "(self, seat)",
+            "neighbours": "(self, seat)", "changed": "(self, seat, cell)", "with_starters": "(self, seats)",
+            "with_bars": "(self, seats)"},
+}
+SIGNATURES = {
+    "is_cell": "(value)", "is_column": "(frame, value)", "mirrored": "(stretch)", "rounds": "(web)",
+    "moment": "(web, seat)", "won": "(web)", "all_won": "(web)", "is_holdout": "(web, value)",
+    "is_order": "(web, value)", "holdout": "(web)", "is_lean": "(web, seat, value)", "lean_order": "(web, seat)",
+}
+WRONG = [
+    "import sys", "from os import path", "from sparkrows import frames", "from .frames import Frame",
+    "from sparkrows.frames import *", "from sparkrows.frames import Frame as F", "X = len([])", "X, Y = 1, 2",
+    "X = 1\nX = 2", "print(1)", "def f(x=[]):\n    return x", "def f(x):\n    return x / 2",
+    "def f(x):\n    return 0.5", "def f(x):\n    yield x", "def f(x):\n    return any(k for k in x)",
+    "def f(x):\n    try:\n        return x[0]\n    except IndexError:\n        return 0",
+    "def f(x):\n    return hash(x)", "def f(id):\n    return id", "def f(x):\n    for next in x:\n        pass",
+    "def f(x):\n    x.sort()", "def f(x):\n    return set(x)", "def f(x):\n    y = {1, x}",
+    "def f(x):\n    return x is f", "def f(x):\n    raise x", "def f(x):\n    return '%s'",
+    "def f(x):\n    return 'an enum'", "def f(x):\n    return x.__dict__", "def f(x):\n    global Y",
+    "@f\ndef g(x):\n    return x", "class A(B, C):\n    pass", "class A:\n    n = 1",
+    "class A:\n    def __hash__(self):\n        return 1",
+    "class A:\n    def n(self):\n        self.n = 1", "class A:\n    def n(self):\n        self.items = 1",
+    "def f(x):\n    class A:\n        pass", "X = '" + "a" * 120 + "'", "# \u00e4", "def f(x):\n\treturn x",
+    "def f(x):\n" + "    x = 1\n" * 41, "# a\n" * 401, "from sparkrows.a import b\ndef f(b):\n    return b",
+]
+
+
+def files():
+    return sorted(FOLDER.rglob("*.py"))
+
+
+def trees():
+    return {path.stem: ast.parse(path.read_text(encoding="utf-8")) for path in files()}
+
+
+def all_methods():
+    return [item.name for tree in trees().values() for node in ast.walk(tree) if isinstance(node, ast.ClassDef)
+            for item in node.body if isinstance(item, ast.FunctionDef)]
+
+
+def imports(tree):
+    return [(node.module.split(".")[-1], [name.name for name in node.names])
+            for node in tree.body if isinstance(node, ast.ImportFrom)]
+
+
+class LanguageTest(unittest.TestCase):
+
+    def test_no_complaints(self):
+        methods = all_methods()
+        self.assertTrue(files())
+        for path in files():
+            self.assertEqual(complaints(path.read_text(encoding="utf-8"), methods), [], path.name)
+
+    def test_what_is_wrong_is_seen(self):
+        for text in WRONG:
+            self.assertNotEqual(complaints(text), [], text)
+
+    def test_nothing_but_python_files_with_plain_names(self):
+        for path in FOLDER.rglob("*"):
+            if "__pycache__" in path.parts:
+                continue
+            self.assertRegex(path.name, re.compile(r"^(__init__|[a-z][a-z0-9_]*)\.py$"))
+            self.assertNotRegex(path.name, re.compile(r"^(test|law_|site|conftest)"))
+
+    def test_names_are_imported_from_where_they_are_defined(self):
+        known = trees()
+        for name, tree in known.items():
+            for module, names in imports(tree):
+                defined = [getattr(node, "name", None) for node in known[module].body]
+                defined += [node.targets[0].id for node in known[module].body if isinstance(node, ast.Assign)]
+                self.assertEqual([some for some in names if some not in defined], [], name)
+
+    def test_no_two_files_import_each_other(self):
+        left = {name: [module for module, _ in imports(tree)] for name, tree in trees().items()}
+        while left:
+            free = [name for name in left if not [module for module in left[name] if module in left]]
+            self.assertTrue(free, f"a circle among {sorted(left)}")
+            for name in free:
+                del left[name]
+
+    def test_a_class_has_no_name_of_a_method_as_property_elsewhere(self):
+        decorated = [node.name for tree in trees().values() for node in ast.walk(tree)
+                     if isinstance(node, ast.FunctionDef) and node.decorator_list]
+        plain = [node.name for tree in trees().values() for node in ast.walk(tree)
+                 if isinstance(node, ast.FunctionDef) and not node.decorator_list]
+        stored = [node.attr for tree in trees().values() for node in ast.walk(tree)
+                  if isinstance(node, ast.Attribute) and isinstance(node.ctx, ast.Store)]
+        self.assertEqual([name for name in decorated if name in plain or name in stored], [])
+
+
+class InterfaceTest(unittest.TestCase):
+
+    def test_each_name_is_defined_in_its_file(self):
+        for name, names in INTERFACE.items():
+            module = importlib.import_module(f"{PACKAGE}.{name}")
+            defined = [node.name for node in trees()[name].body if isinstance(node, (ast.FunctionDef, ast.ClassDef))]
+            for some in names:
+                self.assertIn(some, defined)
+                self.assertEqual(getattr(module, some).__module__, module.__name__)
+
+    def test_each_function_has_its_arguments(self):
+        for name, names in INTERFACE.items():
+            module = importlib.import_module(f"{PACKAGE}.{name}")
+            for some in [some for some in names if some in SIGNATURES]:
+                self.assertEqual(str(inspect.signature(getattr(module, some))), SIGNATURES[some], some)
+
+    def test_each_method_stands_in_its_class(self):
+        module = importlib.import_module(f"{PACKAGE}.frames")
+        for name, methods in METHODS.items():
+            body = vars(getattr(module, name))
+            for method, arguments in methods.items():
+                self.assertIn(method, body)
+                self.assertEqual(str(inspect.signature(body[method])), arguments, method)
+        self.assertIsInstance(vars(module.Stretch)["columns"], property)
+
+
+if __name__ == "__main__":
+    unittest.main()
