@@ -16,6 +16,10 @@ def deep(kind, levels=20):
     return value
 
 
+def is_plain_integer(value):
+    return type(value) is int
+
+
 def odd_values():
     """Values of any kind; none of them is a cell, a column, a seat, or a pair of rows."""
     return [
@@ -79,16 +83,24 @@ def some_pairs(chance, pairs):
     return [pair for pair in pairs if chance.random() < 0.5]
 
 
-def random_web(chance, least=1, most=6):
-    """A web of any frame; some are rings, some have seats that need 0 or 9."""
+def random_frame(chance):
     width = chance.randint(1, 3)
     rows = range(width)
-    frame = Frame(width, inner=some_pairs(chance, itertools.combinations(rows, 2)),
-                  outer=some_pairs(chance, itertools.product(rows, rows)))
-    many = chance.randint(least, most)
+    return Frame(width, inner=some_pairs(chance, itertools.combinations(rows, 2)),
+                 outer=some_pairs(chance, itertools.product(rows, rows)))
+
+
+def random_stretch(chance, frame, least=1, most=3, starters=0.2):
+    """A stretch of any columns; some have seats that need 0 or 9."""
     needs = chance.choice([(0, 1, 2, 3, 9), (1, 1, 2, 2, 3), (1, 2), (1,), (2, 3)])
-    columns = [tuple((chance.choice(needs), chance.random() < 0.2) for _ in rows) for _ in range(many)]
-    return web_of(frame, columns, closed=many >= 3 and chance.random() < 0.5)
+    return Stretch(frame, [tuple((chance.choice(needs), chance.random() < starters) for _ in range(frame.width))
+                           for _ in range(chance.randint(least, most))])
+
+
+def random_web(chance, least=1, most=6):
+    """A web of any frame; some are rings."""
+    stretch = random_stretch(chance, random_frame(chance), least, most)
+    return Web(stretch, closed=len(stretch) >= 3 and chance.random() < 0.5)
 
 
 def random_webs(seed, many, **bounds):
@@ -107,7 +119,50 @@ def small_webs():
     return found
 
 
+def plain_sides(width):
+    """All sides of a width, the shortest ones first."""
+    return [side for many in range(width + 1) for side in itertools.combinations(range(width), many)]
+
+
+def plain_pairs(width):
+    return list(itertools.product(plain_sides(width), repeat=2))
+
+
+def held(frame, side):
+    """A column of which these rows are in from the beginning, and the other ones never join."""
+    return tuple((5, True) if row in side else (9, False) for row in range(frame.width))
+
+
+def plain_rows(web):
+    """For each column of a web the rows that are won, by a plain walk."""
+    moments = plain_moments(web)
+    return [tuple(row for row in range(web.stretch.frame.width) if (column, row) in moments)
+            for column in range(len(web.stretch))]
+
+
+def plain_between(stretch, left, right):
+    """For each column of a stretch the rows that come to be in between two sides, by a plain walk."""
+    frame = stretch.frame
+    rows = plain_rows(web_of(frame, [held(frame, left), *stretch.columns, held(frame, right)]))
+    return rows[1:-1]
+
+
+def plain_entry(stretch, left, right):
+    """The entry of two sides in the table of a stretch, by a plain walk."""
+    rows = plain_between(stretch, left, right)
+    return rows[0], rows[-1], all(len(side) == stretch.frame.width for side in rows)
+
+
+def plain_entries(stretch):
+    return {key: plain_entry(stretch, *key) for key in plain_pairs(stretch.frame.width)}
+
+
+def shape_of(stretch):
+    """All that a stretch holds, as plain values, to see that it stays as it was."""
+    frame = stretch.frame
+    return repr((frame.width, frame.inner, frame.outer, stretch.columns))
+
+
 def shape(web):
     """All that a web holds, as plain values, to see that it stays as it was."""
-    frame = web.stretch.frame
-    return repr((frame.width, frame.inner, frame.outer, web.stretch.columns, web.closed))
+    return shape_of(web.stretch) + repr(web.closed)

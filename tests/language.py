@@ -9,7 +9,7 @@ import builtins
 PACKAGE = "sparkrows"
 ALLOWED_BUILTINS = set(
     "len range enumerate zip min max sum abs sorted reversed int str bool list tuple dict set isinstance repr any all"
-    " divmod ValueError NotImplemented".split())
+    " divmod ValueError TypeError NotImplemented".split())
 METHODS = set(
     "append clear copy count endswith extend find get index insert isalnum isalpha isdigit islower isspace isupper items"
     " join keys ljust lower lstrip partition pop remove replace reverse rfind rjust rpartition rsplit rstrip setdefault"
@@ -19,6 +19,7 @@ BARRED_WORDS = set(
     "type typing typing_extensions enum Enum IntEnum StrEnum Flag IntFlag Generic Protocol ABC ABCMeta namedtuple"
     " NamedTuple TypedDict TYPE_CHECKING abstractmethod register mro elements open input law version_info"
     " with_traceback add_note".split())
+CHANGING = set("append clear extend insert pop remove reverse setdefault sort update add discard".split())
 STATEMENTS = (ast.Assign, ast.AugAssign, ast.If, ast.While, ast.For, ast.Return, ast.Break, ast.Continue, ast.Pass,
               ast.Raise, ast.Assert, ast.Delete, ast.Expr, ast.FunctionDef)
 EXPRESSIONS = (ast.BoolOp, ast.BinOp, ast.UnaryOp, ast.IfExp, ast.Dict, ast.Set, ast.ListComp, ast.SetComp,
@@ -157,7 +158,8 @@ def of_names(tree, methods):
     """L8, L12, L15, L17, L25: names and words."""
     bound, imported = bound_names(tree), imported_names(tree)
     for name in [*bound, *imported]:
-        if hasattr(builtins, name) or name in BARRED_WORDS:
+        # A console, and doctest with it, keeps what it showed last among the builtins, under the name _.
+        if name != "_" and (hasattr(builtins, name) or name in BARRED_WORDS):
             yield f"L15 {name} has another meaning"
     for name in [name for name in bound if name in imported]:
         yield f"L15 {name} is imported"
@@ -191,10 +193,99 @@ def of_sets(tree):
                 yield f"L24 line {node.lineno}"
 
 
+def iterated(tree):
+    """What is iterated on the spot."""
+    found = [node.iter for node in ast.walk(tree) if isinstance(node, (ast.For, ast.comprehension))]
+    for node in ast.walk(tree):
+        if isinstance(node, ast.Call) and isinstance(node.func, ast.Name):
+            if node.func.id == "zip":
+                found += node.args
+            if node.func.id in ("list", "tuple", "dict", "sorted", "sum", "any", "all", "enumerate"):
+                found += node.args[:1]
+            if node.func.id in ("min", "max", "len", "reversed") and len(node.args) == 1:
+                found += node.args
+    return found
+
+
+def of_iterated(tree):
+    """L23: ranges, zips and views are iterated on the spot."""
+    placed = iterated(tree)
+    for node in ast.walk(tree):
+        if isinstance(node, ast.Call) and node not in placed:
+            name = getattr(node.func, "id", "") if isinstance(node.func, ast.Name) else ""
+            view = node.func.attr if isinstance(node.func, ast.Attribute) and not node.args else ""
+            if name in ("range", "zip", "enumerate", "reversed") or view in ("items", "keys", "values"):
+                yield f"L23 line {node.lineno}"
+
+
+def of_indexed(text, tree):
+    """L5, L17: a class with __getitem__ has an __iter__ that raises; some words do not occur beside it."""
+    for node in [node for node in tree.body if isinstance(node, ast.ClassDef)]:
+        methods = {item.name: item for item in node.body if isinstance(item, ast.FunctionDef)}
+        if "__getitem__" in methods and "__iter__" not in methods:
+            yield f"L5 {node.name} has no __iter__"
+        if "__iter__" in methods:
+            body = methods["__iter__"].body
+            if len(body) != 1 or not ast.unparse(body[0]).startswith("raise TypeError("):
+                yield f"L5 {node.name} is iterated over"
+    if "(type)" in text or "Meta" in text or "metaclass=" in text:
+        yield "L17 a word that does not stand beside __getitem__"
+
+
+def fresh_names(function):
+    """The local variables that are only ever assigned lists and dicts that the function creates."""
+    kinds = {}
+    for node in ast.walk(function):
+        if isinstance(node, ast.Assign):
+            value = node.value
+            made = isinstance(value, (ast.List, ast.Dict, ast.ListComp, ast.DictComp))
+            if isinstance(value, ast.Call) and isinstance(value.func, ast.Name):
+                made = value.func.id in ("list", "dict", "sorted")
+            for target in node.targets:
+                if isinstance(target, ast.Name):
+                    kinds.setdefault(target.id, []).append(made)
+    return [name for name in kinds if all(kinds[name])]
+
+
+def changes(function):
+    """The lines of a function that change something it did not create itself."""
+    fresh = fresh_names(function)
+    for node in ast.walk(function):
+        if isinstance(node, ast.Attribute) and isinstance(node.ctx, ast.Store):
+            yield node.lineno
+        if isinstance(node, ast.Subscript) and not isinstance(node.ctx, ast.Load):
+            if not isinstance(node.value, ast.Name) or node.value.id not in fresh:
+                yield node.lineno
+        if isinstance(node, ast.AugAssign) and not isinstance(node.value, ast.Constant):
+            yield node.lineno
+        if isinstance(node, ast.Call) and isinstance(node.func, ast.Attribute) and node.func.attr in CHANGING:
+            if not isinstance(node.func.value, ast.Name) or node.func.value.id not in fresh:
+                yield node.lineno
+
+
+def changes_by_operators(trees):
+    """L5: what operators, properties, __eq__, __len__, and all that they call by name, change but must not."""
+    functions, waiting = {}, []
+    for node in [node for tree in trees for node in ast.walk(tree) if isinstance(node, ast.FunctionDef)]:
+        functions.setdefault(node.name, []).append(node)
+        if node.decorator_list or (node.name.startswith("__") and node.name != "__init__"):
+            waiting.append(node)
+    seen = []
+    while waiting:
+        function = waiting.pop()
+        seen.append(function)
+        for node in ast.walk(function):
+            if isinstance(node, ast.Call):
+                name = getattr(node.func, "id", getattr(node.func, "attr", ""))
+                waiting += [some for some in functions.get(name, []) if some not in seen and some not in waiting]
+    return [f"L5 {function.name} line {line}" for function in seen for line in changes(function)]
+
+
 def complaints(text, methods=()):
     """All that is wrong with the text of one file; methods are those that the package defines."""
     tree = ast.parse(text)
     own = [item.name for node in tree.body if isinstance(node, ast.ClassDef)
            for item in node.body if isinstance(item, ast.FunctionDef)]
     return [*of_text(text), *of_module_level(tree), *of_functions(tree), *of_classes(tree), *of_nodes(tree),
-            *of_names(tree, [*methods, *own]), *of_sets(tree)]
+            *of_names(tree, [*methods, *own]), *of_sets(tree), *of_iterated(tree),
+            *of_indexed(text, tree)]

@@ -34,6 +34,51 @@ STAGE_3 = """
 [[(0, 0), (1, 0), (2, 0), (2, 1)], [(0, 1), (1, 1)], False]
 """
 
+STAGE_4 = """
+>>> from sparkrows.frames import Frame, Stretch
+>>> from sparkrows.tables import table_of
+>>> path = Frame(1, outer=[(0, 0)])
+>>> two, one = Stretch(path, [((2, False),)]), Stretch(path, [((1, False),)])
+>>> [table_of(two)[(0,), (0,)], table_of(two * 2)[(0,), (0,)], table_of(two + one)[(), (0,)], \
+table_of(two + one)[(0,), (0,)]]
+[((0,), (0,), True), ((), (), False), ((), (0,), False), ((0,), (0,), True)]
+"""
+
+STAGE_5 = """
+>>> from sparkrows.frames import Frame, Stretch
+>>> from sparkrows.powers import Family, powers, wins, wins_at
+>>> path, crossed = Frame(1, outer=[(0, 0)]), Frame(2, outer=[(0, 1), (1, 0)])
+>>> two, spark = Stretch(path, [((2, False),)]), Stretch(path, [((0, True),)])
+>>> [powers(two)[:2], powers(Stretch(crossed, [((1, False), (1, False))]))[:2]]
+[(1, 1), (0, 2)]
+>>> [wins(Family(two, head=spark, tail=spark)), wins(Family(two)), wins(Family(two + spark, closed=True)), \
+wins_at(Family(spark), 10 ** 50)]
+[([True, True], [False]), ([None], [False]), ([None, None], [True]), True]
+"""
+
+STAGE_6 = """
+>>> from sparkrows.far import count, is_in
+>>> from sparkrows.frames import Frame, Stretch
+>>> from sparkrows.powers import Family
+>>> crossed = Frame(2, outer=[(0, 1), (1, 0)])
+>>> family = Family(Stretch(crossed, [((1, False), (1, False))]), head=Stretch(crossed, [((1, True), (1, False))]))
+>>> [is_in(family, 10 ** 30, 10 ** 30, 0), is_in(family, 10 ** 30, 10 ** 30, 1), count(family, 10 ** 30)]
+[True, False, 1000000000000000000000000000001]
+"""
+
+STAGE_7 = """
+>>> from sparkrows.frames import Frame, Stretch
+>>> from sparkrows.tables import table_of
+>>> from sparkrows.views import alike, parts, view
+>>> path = Frame(1, outer=[(0, 0)])
+>>> never, one, two = Stretch(path, [((9, False),)]), Stretch(path, [((1, False),)]), Stretch(path, [((2, False),)])
+>>> [alike(one + never, never), table_of(one + never) == table_of(never), alike(two * 2, never), alike(two, never)]
+[True, False, True, False]
+>>> [view(one)[(0,), ()], parts(two, never, ((0, True),), ((0, True),)), \
+parts(two, never, ((0, True),), ((1, False),))]
+[((None,), (1,), True), True, False]
+"""
+
 
 class ExamplesTest(unittest.TestCase):
 
@@ -51,6 +96,18 @@ class ExamplesTest(unittest.TestCase):
 
     def test_stage_3(self):
         self.runs(STAGE_3, "stage 3", 6)
+
+    def test_stage_4(self):
+        self.runs(STAGE_4, "stage 4", 5)
+
+    def test_stage_5(self):
+        self.runs(STAGE_5, "stage 5", 6)
+
+    def test_stage_6(self):
+        self.runs(STAGE_6, "stage 6", 6)
+
+    def test_stage_7(self):
+        self.runs(STAGE_7, "stage 7", 7)
 
 
 if __name__ == "__main__":

@@ -7,7 +7,7 @@ import pathlib
 import re
 import unittest
 
-from tests.language import PACKAGE, complaints
+from tests.language import PACKAGE, changes_by_operators, complaints
 
 FOLDER = pathlib.Path(__file__).resolve().parent.parent / PACKAGE
 INTERFACE = {
@@ -17,6 +17,10 @@ INTERFACE = {
     "frames": ["Frame", "is_cell", "is_column", "Stretch", "mirrored", "Web"],
     "rounds": ["rounds", "moment", "won", "all_won"],
     "holdouts": ["is_holdout", "is_order", "holdout", "is_lean", "lean_order"],
+    "tables": ["sides", "Table", "column_rows", "table_of"],
+    "powers": ["powers", "is_powers", "power", "Family", "wins", "wins_at"],
+    "far": ["is_in", "count", "parting"],
+    "views": ["view", "alike", "surrounding", "parts"],
 }
 METHODS = {
     "Frame": {"__init__": "(self, width, *, inner=(), outer=())", "__eq__": "(self, other)",
@@ -27,11 +31,20 @@ METHODS = {
             "is_seat": "(self, value)", "are_seats": "(self, value)", "cell": "(self, seat)",
             "neighbours": "(self, seat)", "changed": "(self, seat, cell)", "with_starters": "(self, seats)",
             "with_bars": "(self, seats)"},
+    "Table": {"__init__": "(self, width, entries)", "__getitem__": "(self, at)", "__eq__": "(self, other)",
+              "__add__": "(self, other)", "entries": "(self)", "mirrored": "(self)", "ring": "(self)"},
+    "Family": {"__init__": "(self, body, *, head=None, tail=None, closed=False)", "__eq__": "(self, other)",
+               "has": "(self, size)", "length": "(self, size)", "at": "(self, size)"},
 }
 SIGNATURES = {
     "is_cell": "(value)", "is_column": "(frame, value)", "mirrored": "(stretch)", "rounds": "(web)",
     "moment": "(web, seat)", "won": "(web)", "all_won": "(web)", "is_holdout": "(web, value)",
     "is_order": "(web, value)", "holdout": "(web)", "is_lean": "(web, seat, value)", "lean_order": "(web, seat)",
+    "sides": "(width)", "column_rows": "(frame, column, left, right)", "table_of": "(stretch)",
+    "powers": "(stretch)", "is_powers": "(stretch, start, period, tables)", "power": "(stretch, times)",
+    "wins": "(family)", "wins_at": "(family, size)", "is_in": "(family, size, column, row)",
+    "count": "(family, size)", "parting": "(one, other)", "view": "(stretch)", "alike": "(one, other)",
+    "surrounding": "(one, other)", "parts": "(one, other, left, right)",
 }
 WRONG = [
     "import sys", "from os import path", "from sparkrows import frames", "from .frames import Frame",
@@ -48,6 +61,35 @@ WRONG = [
     "class A:\n    def n(self):\n        self.n = 1", "class A:\n    def n(self):\n        self.items = 1",
     "def f(x):\n    class A:\n        pass", "X = '" + "a" * 120 + "'", "# \u00e4", "def f(x):\n\treturn x",
     "def f(x):\n" + "    x = 1\n" * 41, "# a\n" * 401, "from sparkrows.a import b\ndef f(b):\n    return b",
+    "from math import lcm",
+    "def f(x):\n    return [*range(x)]", "def f(x):\n    y = x.items()", "def f(x):\n    return zip(x, x)",
+    "class A:\n    def __getitem__(self, at):\n        return at", "# Meta", "# (type)",
+    "class A:\n    def __iter__(self):\n        return iter(self.rows)",
+]
+RIGHT = [
+    "from sparkrows.a import b\n\ndef f(x):\n    return b(x, 2)", "def f(x):\n    return [k for k in range(x)]",
+    "def f(x):\n    return list(range(x)) + sorted(zip(x, enumerate(x))) + [*x]",
+    "class A:\n    def __getitem__(self, at):\n        return at\n    def __iter__(self):\n"
+    "        raise TypeError('none')",
+]
+CHANGING = [
+    "    def __add__(self, other):\n        self.n = other",
+    "    def __add__(self, other):\n        other[0] = 1",
+    "    def __getitem__(self, at):\n        at.append(1)",
+    "    def __eq__(self, other):\n        del other[0]",
+    "    def __len__(self):\n        return f(self)\n\ndef f(x):\n    x.rows.pop()",
+    "    def __len__(self):\n        return self.told()\n    def told(self):\n        self.n = 1",
+    "    @property\n    def n(self):\n        self.n = 1",
+    "    def __add__(self, other):\n        rows = self.rows\n        rows.append(1)",
+    "    def __add__(self, other):\n        rows = []\n        rows = other\n        rows.append(1)",
+    "    def __add__(self, other):\n        rows = 1\n        rows += other",
+]
+CHANGING_NOTHING = [
+    "    def __init__(self, n):\n        self.n = n",
+    "    def told(self):\n        self.n = 1",
+    "    def __add__(self, other):\n        rows = []\n        rows.append(1)\n        rows[0] = other",
+    "    def __add__(self, other):\n        rows = dict(other)\n        rows[1] = 2",
+    "    def __len__(self):\n        return f(self.n)\n\ndef f(x):\n    return x",
 ]
 
 
@@ -65,6 +107,7 @@ def all_methods():
 
 
 def imports(tree):
+    """The modules of the package that a file imports from, each with the names."""
     return [(node.module.split(".")[-1], [name.name for name in node.names])
             for node in tree.body if isinstance(node, ast.ImportFrom)]
 
@@ -80,6 +123,19 @@ class LanguageTest(unittest.TestCase):
     def test_what_is_wrong_is_seen(self):
         for text in WRONG:
             self.assertNotEqual(complaints(text), [], text)
+
+    def test_what_is_right_is_seen(self):
+        for text in RIGHT:
+            self.assertEqual(complaints(text), [], text)
+
+    def test_operators_change_nothing(self):
+        self.assertEqual(changes_by_operators(list(trees().values())), [])
+
+    def test_changes_by_operators_are_seen(self):
+        for text in CHANGING:
+            self.assertNotEqual(changes_by_operators([ast.parse("class A:\n" + text)]), [], text)
+        for text in CHANGING_NOTHING:
+            self.assertEqual(changes_by_operators([ast.parse("class A:\n" + text)]), [], text)
 
     def test_nothing_but_python_files_with_plain_names(self):
         for path in FOLDER.rglob("*"):
@@ -131,13 +187,13 @@ class InterfaceTest(unittest.TestCase):
                 self.assertEqual(str(inspect.signature(getattr(module, some))), SIGNATURES[some], some)
 
     def test_each_method_stands_in_its_class(self):
-        module = importlib.import_module(f"{PACKAGE}.frames")
         for name, methods in METHODS.items():
-            body = vars(getattr(module, name))
+            home = [module for module in INTERFACE if name in INTERFACE[module]][0]
+            body = vars(getattr(importlib.import_module(f"{PACKAGE}.{home}"), name))
             for method, arguments in methods.items():
                 self.assertIn(method, body)
                 self.assertEqual(str(inspect.signature(body[method])), arguments, method)
-        self.assertIsInstance(vars(module.Stretch)["columns"], property)
+        self.assertIsInstance(vars(importlib.import_module(f"{PACKAGE}.frames").Stretch)["columns"], property)
 
 
 if __name__ == "__main__":
