@@ -7,6 +7,8 @@ import ast
 import builtins
 
 PACKAGE = "sparkrows"
+# What is used of the library, of all that the document allows.
+LIBRARY = {"math": ["gcd"]}
 ALLOWED_BUILTINS = set(
     "len range enumerate zip min max sum abs sorted reversed int str bool list tuple dict set isinstance repr any all"
     " divmod ValueError TypeError NotImplemented".split())
@@ -19,6 +21,8 @@ BARRED_WORDS = set(
     "type typing typing_extensions enum Enum IntEnum StrEnum Flag IntFlag Generic Protocol ABC ABCMeta namedtuple"
     " NamedTuple TypedDict TYPE_CHECKING abstractmethod register mro elements open input law version_info"
     " with_traceback add_note".split())
+# Names that nothing has, but words that a text may have.
+WORDS_OF_TEXTS = {"open"}
 CHANGING = set("append clear extend insert pop remove reverse setdefault sort update add discard".split())
 STATEMENTS = (ast.Assign, ast.AugAssign, ast.If, ast.While, ast.For, ast.Return, ast.Break, ast.Continue, ast.Pass,
               ast.Raise, ast.Assert, ast.Delete, ast.Expr, ast.FunctionDef)
@@ -82,7 +86,8 @@ def of_module_level(tree):
     names = imported_names(tree)
     for node in tree.body:
         if isinstance(node, ast.ImportFrom):
-            if node.level or not (node.module or "").startswith(PACKAGE + "."):
+            own = not node.level and (node.module or "").startswith(PACKAGE + ".")
+            if not own and (node.level or [name.name for name in node.names] != LIBRARY.get(node.module)):
                 yield f"L2 line {node.lineno}"
             if any(name.asname or name.name == "*" for name in node.names):
                 yield f"L16 line {node.lineno}"
@@ -96,6 +101,16 @@ def of_module_level(tree):
             yield f"L3 line {node.lineno}"
     if len(names) != len(set(names)):
         yield "L15 a name is bound twice"
+
+
+def of_library(tree):
+    """L2: what comes from the library is only called, with arguments by position."""
+    names = [name.name for node in tree.body if isinstance(node, ast.ImportFrom) and node.module in LIBRARY
+             for name in node.names]
+    called = [node.func for node in ast.walk(tree) if isinstance(node, ast.Call) and not node.keywords]
+    for node in ast.walk(tree):
+        if isinstance(node, ast.Name) and node.id in names and node not in called:
+            yield f"L2 line {node.lineno}: {node.id}"
 
 
 def of_functions(tree):
@@ -172,7 +187,7 @@ def of_names(tree, methods):
             yield f"L17 line {node.lineno}: {node.attr}"
         if isinstance(node, ast.Constant) and isinstance(node.value, str) and node not in texts:
             words = "".join(sign if sign.isalnum() or sign == "_" else " " for sign in node.value).split()
-            if "%" in node.value or BARRED_WORDS & set(words):
+            if "%" in node.value or (BARRED_WORDS - WORDS_OF_TEXTS) & set(words):
                 yield f"L27 line {node.lineno}: a string"
         if isinstance(node, ast.Call) and isinstance(node.func, ast.Attribute):
             if node.func.attr not in METHODS and node.func.attr not in methods:
@@ -286,6 +301,6 @@ def complaints(text, methods=()):
     tree = ast.parse(text)
     own = [item.name for node in tree.body if isinstance(node, ast.ClassDef)
            for item in node.body if isinstance(item, ast.FunctionDef)]
-    return [*of_text(text), *of_module_level(tree), *of_functions(tree), *of_classes(tree), *of_nodes(tree),
-            *of_names(tree, [*methods, *own]), *of_sets(tree), *of_iterated(tree),
+    return [*of_text(text), *of_module_level(tree), *of_library(tree), *of_functions(tree), *of_classes(tree),
+            *of_nodes(tree), *of_names(tree, [*methods, *own]), *of_sets(tree), *of_iterated(tree),
             *of_indexed(text, tree)]

@@ -3,6 +3,9 @@
 import doctest
 import unittest
 
+from sparkrows.errors import BadLine
+from sparkrows.papers import read_family
+
 STAGE_1 = """
 >>> from sparkrows.frames import Frame, Stretch, Web
 >>> ladder = Frame(2, inner=[(0, 1)], outer=[(1, 1), (0, 0)])
@@ -80,6 +83,64 @@ parts(two, never, ((0, True),), ((1, False),))]
 """
 
 
+STAGE_8 = """
+>>> from sparkrows.fewest import fewest
+>>> from sparkrows.frames import Frame, Stretch, Web
+>>> from sparkrows.fronts import front_of
+>>> path = Frame(1, outer=[(0, 0)])
+>>> two, spark = Stretch(path, [((2, False),)]), Stretch(path, [((0, True),)])
+>>> [front_of(two), front_of(spark), front_of(spark + two)]
+[(((), False), ((), False)), (((0,), True), ((0,), True)), (((), False), ((0,), True))]
+>>> [fewest(Web(two * 5), [(1,)] * 5), fewest(Web(two * 5), [(1,), (1,), (5,), (1,), (1,)]), \
+fewest(Web(two), [(None,)])]
+[(3, [(0, 0), (2, 0), (4, 0)]), (4, [(0, 0), (1, 0), (3, 0), (4, 0)]), None]
+"""
+
+STAGE_9 = """
+>>> from sparkrows.forecasts import far_least, forecast
+>>> from sparkrows.frames import Frame, Stretch
+>>> from sparkrows.powers import Family
+>>> from sparkrows.rates import least, needs, rate
+>>> path = Frame(1, outer=[(0, 0)])
+>>> family, prices = Family(Stretch(path, [((2, False),)])), ([], [(1,)], [])
+>>> full, half = (((0,), True), ((0,), True)), (((), False), ((0,), True))
+>>> [[line[full] for line in needs(family, prices, 6)], [line[half] for line in needs(family, prices, 6)], \
+least(family, prices, 7)]
+[[0, 1, 1, 2, 2, 3], [None, 1, 2, 2, 3, 3], 4]
+>>> [rate(family, prices), forecast(family, prices), far_least(family, prices, 10 ** 20), \
+forecast(family, prices, within=4)]
+[(1, 2), ([0, 1, 2], 2, [1, 1]), 50000000000000000001, None]
+"""
+
+STAGE_10 = """
+>>> from sparkrows.frames import Frame, Stretch, Web
+>>> from sparkrows.guards import guard
+>>> path = Frame(1, outer=[(0, 0)])
+>>> web = Web(Stretch(path, [((0, True),)]) + Stretch(path, [((1, False),)]) * 4)
+>>> [guard(web, [(None,), (3,), (1,), (2,), (None,)], [(4, 0)]), guard(web, [(None,)] * 5, [(1, 0)]), \
+guard(web, [(None,)] * 5, [])]
+[(1, [(2, 0)]), None, (0, [])]
+"""
+
+STAGE_11 = """
+>>> from sparkrows.fields import Field
+>>> from sparkrows.frames import Frame, Stretch, Web
+>>> field = Field(Web(Stretch(Frame(1, outer=[(0, 0)]), \
+[((0, True),), ((1, False),), ((2, False),), ((1, False),)])))
+>>> [field.can_join(), field.step(), field.leave((0, 0)), field.can_join(), field.outcome(), field.put((3, 0)), \
+field.outcome(), field.undo(), field.history]
+[[(1, 0)], [(1, 0)], None, [(0, 0)], [(0, 0), (1, 0)], None, [(0, 0), (1, 0), (2, 0), (3, 0)], ('put', (3, 0)), \
+[('step',), ('leave', (0, 0))]]
+"""
+
+STAGE_12 = """
+>>> from sparkrows.frames import Frame, Stretch, Web
+>>> from sparkrows.papers import format_web, read_family
+>>> format_web(Web(Stretch(Frame(2, outer=[(1, 0), (0, 0)]), [((1, True), (2, False))] * 3), closed=True)).split("\\n")
+['width 2; inner none; outer 0-0 1-0; closed', '1* 2', '1* 2', '1* 2']
+"""
+
+
 class ExamplesTest(unittest.TestCase):
 
     def runs(self, text, name, many):
@@ -108,6 +169,24 @@ class ExamplesTest(unittest.TestCase):
 
     def test_stage_7(self):
         self.runs(STAGE_7, "stage 7", 7)
+
+    def test_stage_8(self):
+        self.runs(STAGE_8, "stage 8", 7)
+
+    def test_stage_9(self):
+        self.runs(STAGE_9, "stage 9", 9)
+
+    def test_stage_10(self):
+        self.runs(STAGE_10, "stage 10", 5)
+
+    def test_stage_11(self):
+        self.runs(STAGE_11, "stage 11", 4)
+
+    def test_stage_12(self):
+        self.runs(STAGE_12, "stage 12", 3)
+        with self.assertRaises(BadLine) as caught:
+            read_family("width 1; inner none; outer 0-0; open\nhead\nbody\ntail")
+        self.assertEqual(caught.exception.line, 4)
 
 
 if __name__ == "__main__":

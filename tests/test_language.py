@@ -21,6 +21,14 @@ INTERFACE = {
     "powers": ["powers", "is_powers", "power", "Family", "wins", "wins_at"],
     "far": ["is_in", "count", "parting"],
     "views": ["view", "alike", "surrounding", "parts"],
+    "fronts": ["first_front", "onward", "front_of", "is_front"],
+    "fewest": ["fewest", "is_prices", "floor", "holds_floor"],
+    "rates": ["is_family_prices", "fronts_of", "behind_body", "least", "needs", "rate", "heights", "is_heights"],
+    "trips": ["trip", "is_trip"],
+    "forecasts": ["is_window", "forecast", "far_least"],
+    "guards": ["guard", "guard_floor", "holds_guard_floor"],
+    "fields": ["Field", "replayed"],
+    "papers": ["format_web", "format_family", "read_web", "read_family"],
 }
 METHODS = {
     "Frame": {"__init__": "(self, width, *, inner=(), outer=())", "__eq__": "(self, other)",
@@ -35,7 +43,11 @@ METHODS = {
               "__add__": "(self, other)", "entries": "(self)", "mirrored": "(self)", "ring": "(self)"},
     "Family": {"__init__": "(self, body, *, head=None, tail=None, closed=False)", "__eq__": "(self, other)",
                "has": "(self, size)", "length": "(self, size)", "at": "(self, size)"},
+    "Field": {"__init__": "(self, web)", "can_join": "(self)", "enter": "(self, seat)", "put": "(self, seat)",
+              "leave": "(self, seat)", "set_need": "(self, seat, need)", "step": "(self)", "undo": "(self)",
+              "fork": "(self)", "outcome": "(self)", "never": "(self)"},
 }
+PROPERTIES = {"Stretch": ["columns"], "Field": ["web", "inside", "history"]}
 SIGNATURES = {
     "is_cell": "(value)", "is_column": "(frame, value)", "mirrored": "(stretch)", "rounds": "(web)",
     "moment": "(web, seat)", "won": "(web)", "all_won": "(web)", "is_holdout": "(web, value)",
@@ -45,6 +57,17 @@ SIGNATURES = {
     "wins": "(family)", "wins_at": "(family, size)", "is_in": "(family, size, column, row)",
     "count": "(family, size)", "parting": "(one, other)", "view": "(stretch)", "alike": "(one, other)",
     "surrounding": "(one, other)", "parts": "(one, other, left, right)",
+    "first_front": "(width)", "onward": "(frame, front, column)", "front_of": "(stretch)",
+    "is_front": "(width, value)", "fewest": "(web, prices)", "is_prices": "(web, value)", "floor": "(web, prices)",
+    "holds_floor": "(web, prices, amount, value)", "is_family_prices": "(family, value)",
+    "fronts_of": "(family, prices)", "behind_body": "(family, prices, front)", "least": "(family, prices, size)",
+    "needs": "(family, prices, many)", "rate": "(family, prices)", "heights": "(family, prices)",
+    "is_heights": "(family, prices, amount, bodies, value)", "trip": "(family, prices)",
+    "is_trip": "(family, prices, amount, bodies, walk, start, end)", "is_window": "(family, prices, start, period)",
+    "forecast": "(family, prices, *, within=24)", "far_least": "(family, prices, size, *, within=24)",
+    "guard": "(web, prices, watched)", "guard_floor": "(web, prices, watched)",
+    "holds_guard_floor": "(web, prices, watched, amount, value)", "replayed": "(web, events)",
+    "format_web": "(web)", "format_family": "(family)", "read_web": "(text)", "read_family": "(text)",
 }
 WRONG = [
     "import sys", "from os import path", "from sparkrows import frames", "from .frames import Frame",
@@ -61,12 +84,14 @@ WRONG = [
     "class A:\n    def n(self):\n        self.n = 1", "class A:\n    def n(self):\n        self.items = 1",
     "def f(x):\n    class A:\n        pass", "X = '" + "a" * 120 + "'", "# \u00e4", "def f(x):\n\treturn x",
     "def f(x):\n" + "    x = 1\n" * 41, "# a\n" * 401, "from sparkrows.a import b\ndef f(b):\n    return b",
-    "from math import lcm",
+    "from math import lcm", "from math import gcd as g", "from math import gcd\n\ndef f(gcd):\n    return gcd",
+    "from math import gcd\n\ndef f(x):\n    return max(x, key=gcd)", "from heapq import heappush", "import math",
     "def f(x):\n    return [*range(x)]", "def f(x):\n    y = x.items()", "def f(x):\n    return zip(x, x)",
     "class A:\n    def __getitem__(self, at):\n        return at", "# Meta", "# (type)",
     "class A:\n    def __iter__(self):\n        return iter(self.rows)",
 ]
 RIGHT = [
+    "from math import gcd\n\ndef f(a, b):\n    return gcd(a, b)", "def f(x):\n    return 'open'",
     "from sparkrows.a import b\n\ndef f(x):\n    return b(x, 2)", "def f(x):\n    return [k for k in range(x)]",
     "def f(x):\n    return list(range(x)) + sorted(zip(x, enumerate(x))) + [*x]",
     "class A:\n    def __getitem__(self, at):\n        return at\n    def __iter__(self):\n"
@@ -109,7 +134,7 @@ def all_methods():
 def imports(tree):
     """The modules of the package that a file imports from, each with the names."""
     return [(node.module.split(".")[-1], [name.name for name in node.names])
-            for node in tree.body if isinstance(node, ast.ImportFrom)]
+            for node in tree.body if isinstance(node, ast.ImportFrom) and node.module.startswith(PACKAGE)]
 
 
 class LanguageTest(unittest.TestCase):
@@ -193,7 +218,15 @@ class InterfaceTest(unittest.TestCase):
             for method, arguments in methods.items():
                 self.assertIn(method, body)
                 self.assertEqual(str(inspect.signature(body[method])), arguments, method)
-        self.assertIsInstance(vars(importlib.import_module(f"{PACKAGE}.frames").Stretch)["columns"], property)
+        for name, properties in PROPERTIES.items():
+            home = [module for module in INTERFACE if name in INTERFACE[module]][0]
+            body = vars(getattr(importlib.import_module(f"{PACKAGE}.{home}"), name))
+            for some in properties:
+                self.assertIsInstance(body[some], property)
+
+    def test_all_of_the_document(self):
+        functions = [name for names in INTERFACE.values() for name in names if name[0].islower()]
+        self.assertEqual(sorted(functions), sorted(SIGNATURES))
 
 
 if __name__ == "__main__":
