@@ -55,6 +55,7 @@ class Layer:
 
     def __init__(self, sight, choices, verdicts):
         self._choices = [(price, rows, sight.answers(column)) for price, rows, column in choices]
+        self._sides = sorted(self._choices[0][2])
         self._verdicts = verdicts
         self._behind = {}
 
@@ -67,7 +68,7 @@ class Layer:
     def _worked_out(self, front):
         found = {}
         for price, rows, answers in self._choices:
-            told = settled(sorted(answers), front, answers)
+            told = settled(self._sides, front, answers)
             behind = tuple([(side, self._verdicts[side, ahead]) for side, ahead in told])
             if behind not in found or price < found[behind][0]:
                 found[behind] = (price, rows)
@@ -91,12 +92,13 @@ def bar_layers(stretch, prices, watched):
     """The layers of a stretch in which seats may be barred; their fronts tell whether a watched one comes to be in."""
     sight = Sight(stretch.frame)
     known = SIDES[:1 << stretch.frame.width]
-    found = []
-    for place, column in enumerate(stretch.columns):
-        rows = [row for other, row in watched if other == place]
-        verdicts = {(side, seen): seen or many_in(rows, side) > 0 for side in known for seen in (False, True)}
-        found.append(Layer(sight, _choices(column, _bars(prices[place])), verdicts))
-    return found
+    rows_at = [tuple(sorted([row for other, row in watched if other == place])) for place in range(len(stretch))]
+    made = {}
+    for key in zip(stretch.columns, prices, rows_at):
+        if key not in made:
+            verdicts = {(side, seen): seen or many_in(key[2], side) > 0 for side in known for seen in (False, True)}
+            made[key] = Layer(sight, _choices(key[0], _bars(key[1])), verdicts)
+    return [made[key] for key in zip(stretch.columns, prices, rows_at)]
 
 
 def sums_behind(layers, sums):

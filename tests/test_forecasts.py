@@ -87,6 +87,31 @@ class PlainWindows:
         return self.least[:start + period], period, steps
 
 
+def told_apart_families():
+    """Families behind whose heads some fronts rise by less than others: the least sum goes by the one first, then by
+    the other, so that windows of the needs stand where the least sum is not yet told."""
+    def made(inner, outer, head, body, tail, prices):
+        frame = Frame(3, inner=inner, outer=outer)
+        parts = [Stretch(frame, [tuple((abs(need), need < 0) for need in column) for column in columns])
+                 for columns in (head, body, tail)]
+        return Family(parts[1], head=parts[0], tail=parts[2]), prices
+
+    return [
+        made([(0, 2), (1, 2)], [(0, 1), (1, 0), (1, 2), (2, 0), (2, 2)], [(3, 3, 3)], [(3, 2, 3)],
+             [(1, 1, -1), (1, 1, 1)], ([(11, 5, 8)], [(None, 1, None)], [(2, None, 6), (5, 6, 8)])),
+        made([(0, 1), (0, 2)], [(0, 1), (0, 2), (1, 0), (1, 2)], [(2, 2, 1), (1, 3, -1)], [(3, 2, 2), (3, 2, 2)],
+             [(2, 1, -2), (2, -1, -2)],
+             ([(11, None, None), (5, 1, 5)], [(None, 0, None), (None, None, 1)], [(1, 9, None), (None, 4, 8)])),
+        made([(0, 1), (1, 2)], [(1, 0), (1, 1), (2, 0)], [(2, 2, 1)], [(2, 2, 2)], [(2, -2, 2)],
+             ([(4, 3, None)], [(None, None, 2)], [(None, None, 4)])),
+        made([(0, 1), (0, 2), (1, 2)], [(0, 2), (1, 0), (1, 2), (2, 0), (2, 2)], [(2, 2, 3), (3, 3, 3), (3, 3, 2)],
+             [(2, 3, 3), (3, 2, 2)], [(-2, 2, 2)],
+             ([(2, 3, None), (4, 4, 2), (2, 4, 8)], [(None, 1, None), (None,) * 3], [(7, None, None)])),
+        made([(0, 1), (0, 2)], [(0, 0), (1, 0), (1, 2), (2, 0), (2, 2)], [(1, 3, 2)], [(3, 2, 3)], [(-1, -2, 9)],
+             ([(3, 8, 12)], [(None, 2, None)], [(None, 3, 6)])),
+    ]
+
+
 def slow_families():
     """Families whose needs go by a period greater than 1, or come to their period late."""
     crossed = Frame(2, outer=[(0, 1), (1, 0)])
@@ -101,7 +126,7 @@ def slow_families():
     found += [(Family(Stretch(wheel, [((1, False),) * 3]), head=Stretch(wheel, [((0, True), (9, False), (9, False))]),
                       tail=Stretch(wheel, [((1, False), (1, False), (1, False))])),
                ([(None, 5, None)], [(None, 1, None)], [(None,) * 3]))]
-    return found
+    return found + told_apart_families()
 
 
 class WindowTest(unittest.TestCase):
@@ -211,6 +236,16 @@ class ForecastTest(unittest.TestCase):
                 self.assertEqual(step is None, firsts[size] is None)
                 if step is not None:
                     self.assertEqual(step, least(family, prices, size + period) - firsts[size])
+
+    def test_a_least_sum_that_turns_late(self):
+        # The one ring costs less for each body, and to come to it costs more at once: up to size 19 the other one does.
+        family, prices = told_apart_families()[0]
+        sums = [least(family, prices, size) for size in range(61)]
+        self.assertEqual(sums[:8] + sums[18:24], [11, 16, 16, 17, 18, 19, 20, 21, 32, 33, 33, 34, 34, 35])
+        told = forecast(family, prices, within=60)
+        self.assertGreater(len(told[0]), 19)
+        self.assertEqual([far_least(family, prices, size, within=60) for size in range(61)], sums)
+        self.assertIsNone(forecast(family, prices, within=20))
 
     def test_steps_are_equal_if_all_have_prices(self):
         for family, prices in slow_families():

@@ -377,6 +377,12 @@ class HeightsTest(unittest.TestCase):
             if not isinstance(wrong, (list, dict)) and not isinstance(wrong, tuple):
                 self.assertIs(is_heights(TWOS, TWOS_PRICES, 1, 2, {**told, wrong: 0}), False)
         self.assertIs(is_heights(TWOS, TWOS_PRICES, 1, 2, list(told.items())), False)
+        # With no body, or less than none, heights would not show anything.
+        still = {front: 0 for front in fronts_of(FREE, FREE_PRICES)}
+        for amount, bodies, expected in ((0, 1, True), (-3, 1, True), (0, 0, False), (-3, 0, False), (0, -1, False),
+                                         (-GREAT, -GREAT, False), (0, GREAT, True), (0, True, False),
+                                         (False, 1, False)):
+            self.assertIs(is_heights(FREE, FREE_PRICES, amount, bodies, still), expected)
         self.assertIs(is_heights(family=TWOS, prices=TWOS_PRICES, amount=1, bodies=2, value=told), True)
 
     def test_fronts_of_other_kinds(self):
